@@ -1,0 +1,53 @@
+"""The interface: the names, the files that define them, and the names of their arguments."""
+
+import ast
+import importlib
+import inspect
+import pathlib
+import unittest
+
+PACKAGE = pathlib.Path(__file__).resolve().parent.parent / "wrecktold"
+
+FUNCTIONS = {
+    "words": "need_octets(value)",
+    "forms": """is_value(value) is_row(value) write_value(value) write_row(row) value_length(value) read_value(octets,at)
+        whole_value(octets) read_row(octets,at) read_rows(octets) healing(octets)""",
+    "differences": """is_edge(many,value) check_system(value) values_hold(system,value) ring_holds(system,value)
+        way_holds(system,tail,head,value) solved(system) with_edges(system,edges) solved_with(system,edges) has_answer(system)
+        span(system,one,other) way(system,tail,head) met(system,one,other,value) table(system) implied(system,edge)
+        within(system,other) thinned(system)""",
+}
+METHODS = {}
+
+
+def told(call, skip):
+    """A function's name and the names of its arguments."""
+    names = list(inspect.signature(call).parameters)[skip:]
+    return f"{call.__name__}({','.join(names)})"
+
+
+class Interface(unittest.TestCase):
+    def test_functions(self):
+        for file, words in FUNCTIONS.items():
+            module = importlib.import_module(f"wrecktold.{file}")
+            for word in words.split():
+                call = getattr(module, word.split("(")[0])
+                self.assertEqual(call.__module__, module.__name__)
+                self.assertEqual(told(call, 0), word)
+
+    def test_methods_stand_in_their_class(self):
+        for (file, name), words in METHODS.items():
+            kind = getattr(importlib.import_module(f"wrecktold.{file}"), name)
+            self.assertEqual(kind.__module__, f"wrecktold.{file}")
+            for word in words.split():
+                self.assertEqual(told(vars(kind)[word.split("(")[0]], 1), word)
+
+    def test_they_are_defined_where_they_stand(self):
+        for file, words in FUNCTIONS.items():
+            tree = ast.parse((PACKAGE / f"{file}.py").read_text())
+            defined = {node.name for node in tree.body if isinstance(node, ast.FunctionDef)}
+            self.assertLessEqual({word.split("(")[0] for word in words.split()}, defined)
+
+
+if __name__ == "__main__":
+    unittest.main()

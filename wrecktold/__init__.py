@@ -1,0 +1,1 @@
+"""Wrecktold: what the memory of a recorder still tells."""
