@@ -19,6 +19,12 @@ ODD = [
     [1, 2, "3"], [[0, 0, None]], (1, (0, 0, 0)), ["a"], errors.Refused(3), [errors.Cut()], deep(50), (1, 2, 3, 4, 5, 6, 7, 8),
 ]
 
+# None of these is an edge between three variables.
+NO_EDGES = [
+    *ODD, (0, 1), (0, 1, 2, 3), (0, 3, 1), (3, 0, 1), (-1, 0, 1), (0, -1, 1), (True, 0, 1), (0, False, 1), (0, 1, True),
+    (0, 1, None), ("0", 1, 1), (0, 1, "1"), [0, 1, (1,)], deep(50),
+]
+
 
 def chance(seed):
     """A row of chances that is the same in every run."""
@@ -87,3 +93,70 @@ def wide_system():
     ends = [(at, (at + 1) % 1000) for at in range(1000)]
     ends += [(dice.randrange(1000), dice.randrange(1000)) for _ in range(1000)]
     return 1000, tuple((tail, head, heights[head] - heights[tail] + dice.randint(0, 50)) for tail, head in ends)
+
+
+def with_part(value, at, part):
+    """A sequence with another part at this place."""
+    return [*value[:at], part, *value[at + 1:]]
+
+
+def some_range(dice, least, most):
+    """Two integers, the first not the greater one."""
+    low = dice.randint(least, most)
+    return low, dice.randint(low, most)
+
+
+def some_setup(dice):
+    """A setup by chance, the recorder's clock able to be a tick a stamp."""
+    sources = []
+    for _ in range(dice.randint(1, 3)):
+        low, high = some_range(dice, 1, 4)
+        gap, pause = some_range(dice, 1, 6)
+        least = dice.randint(0, 5)
+        sources.append((low, high, least, least + dice.randrange(low * gap), gap, pause))
+    channels = [(dice.randrange(len(sources)), dice.choice((None, 1, 2, 5))) for _ in range(dice.randint(1, 4))]
+    return tuple(sources), (1, dice.randint(1, 3)), tuple(channels)
+
+
+def sendings(dice, setup, source, many):
+    """(heard, sent, boot, number, stamp, readings) of frames of a source, as they truly were."""
+    low, high, least, most, gap, pause = setup[0][source]
+    time, boot, stamp, number = dice.randint(-9, 9), dice.randint(0, 3), dice.randint(0, 99), dice.choice((0, 7, 254))
+    rates = {channel: rate for channel, (by, rate) in enumerate(setup[2]) if by == source}
+    values = {channel: dice.randint(-9, 9) for channel in rates}
+    told = []
+    for _ in range(many):
+        readings = tuple((channel, values[channel]) for channel in sorted(values) if dice.random() < 0.6)
+        told.append((time + dice.randint(least, most), time, boot, number % 256, stamp, readings))
+        stamps = dice.randint(gap, pause)
+        if dice.random() < 0.15:
+            boot, stamp, number = boot + 1, dice.randint(0, 99), dice.choice((0, 3))
+            ticks = dice.randint(low * gap, low * gap + 9)
+        else:
+            stamp, number = stamp + stamps, number + 1
+            ticks = sum(dice.randint(low, high) for _ in range(stamps))
+        time += ticks
+        for channel, rate in rates.items():
+            values[channel] += dice.randint(-9, 9) if rate is None else dice.randint(-rate * ticks, rate * ticks)
+    return told
+
+
+def flight(dice, setup, many=4):
+    """(rows, course): what a recorder heard, some frames lost, and when all that was."""
+    heard = []
+    for source in range(len(setup[0])):
+        for told in sendings(dice, setup, source, dice.randint(0, many)):
+            if dice.random() < 0.8:
+                heard.append((told[0], source, *told[1:]))
+    rows = []
+    course = []
+    rboot, rstamp, last = dice.randint(0, 2), dice.randint(0, 50), None
+    for time, source, sent, boot, number, stamp, readings in sorted(heard):
+        if last is not None and time > last and dice.random() < 0.15:
+            rboot, rstamp = rboot + 1, dice.randint(0, 50)
+        elif last is not None:
+            rstamp += dice.randint(-(-(time - last) // setup[1][1]), time - last)
+        rows.append((rboot, rstamp, source, boot, number, stamp, readings))
+        course.append((sent, time))
+        last = time
+    return tuple(rows), tuple(course)

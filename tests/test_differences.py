@@ -4,7 +4,7 @@ import itertools
 import time
 import unittest
 
-from plain import ODD, all_tuples, caught, chance, deep, farthest, keeps, some_system, wide_system
+from plain import NO_EDGES, ODD, all_tuples, caught, chance, deep, farthest, keeps, some_system, wide_system
 from wrecktold import differences
 from wrecktold.differences import (
     check_system, has_answer, implied, is_edge, met, ring_holds, solved, solved_with, span, table, thinned, values_hold,
@@ -14,10 +14,6 @@ from wrecktold.errors import Refused
 
 SYSTEM = (3, ((0, 1, 2), (1, 2, -1), (2, 0, 0), (0, 2, 5)))
 RING = (2, ((0, 1, 2), (1, 0, -3)))
-NO_EDGES = [
-    *ODD, (0, 1), (0, 1, 2, 3), (0, 3, 1), (3, 0, 1), (-1, 0, 1), (0, -1, 1), (True, 0, 1), (0, False, 1), (0, 1, True),
-    (0, 1, None), ("0", 1, 1), (0, 1, "1"), [0, 1, (1,)], deep(50),
-]
 NO_SYSTEMS = [
     *ODD, (3,), (3, (), ()), (0, ()), (-1, ()), (1001, ()), (True, ()), (None, ()), ("3", ()), (3, None), (3, 0), (3, "a"),
     (3, (0, 1, 2)), ([3], ()), *((3, [(0, 1, 2), bad]) for bad in NO_EDGES),

@@ -16,8 +16,20 @@ FUNCTIONS = {
         way_holds(system,tail,head,value) solved(system) with_edges(system,edges) solved_with(system,edges) has_answer(system)
         span(system,one,other) way(system,tail,head) met(system,one,other,value) table(system) implied(system,edge)
         within(system,other) thinned(system)""",
+    "setups": """check_setup(value) need_channel(setup,value) check_frame(setup,value) check_row(setup,value) check_rows(setup,value)
+        rows_of(rows,source) readings_of(rows,channel) neighbours(places)""",
+    "numbers": """counts(source,one,other) ahead_counts(source,one) doubt_span(source) run_holds(source,value)
+        run_between(source,one,other,count) run_to(source,one,count) missing(setup,rows) false_pair(setup,rows)
+        missing_sums(setup,rows,source)""",
+    "clocks": """sent(place) heard(place) bounds_of(setup,rows) system_of(setup,rows) edge_words(setup,rows)
+        course_faults(setup,rows,course) course_holds(setup,rows,value)""",
+    "tents": """check_tent(value) values_at(tent,tick) highest(tent) lowest(tent) path_holds(tent,value) path_at(tent,tick,value)
+        above_at(tent,limit) can_be_above(tent,limit) many_above(tent,limit)""",
 }
-METHODS = {}
+METHODS = {
+    ("edits", "Bounds"): """__init__(many) grow() told_edges() answer() lay(edge) lift(number) ring_with(edges) can(edges)
+        span(one,other) way(tail,head)""",
+}
 
 
 def told(call, skip):
