@@ -204,6 +204,12 @@ class Rows(unittest.TestCase):
         self.assertEqual(missing_sums(setup, rows, 0), (256,))
         self.assertEqual(missing_sums(setup, rows, 1), (258,))
 
+    def test_all_of_many_sources(self):
+        setup = ((clocked(1, 9),) * 8, (1, 1), ((0, None),))
+        rows = [(0, at, at % 8, 0, at // 8, 9 * (at // 8), ()) for at in range(16)]
+        self.assertEqual(missing(setup, rows), tuple((source, source + 8, (0,)) for source in range(8)))
+        self.assertEqual(false_pair(setup, [*rows[:15], with_part(rows[15], 4, 99)]), (7, 15))
+
     def test_false_pairs(self):
         self.assertEqual(false_pair(SETUP, ROWS), (1, 2))
         self.assertIsNone(false_pair(setup=SETUP, rows=ROWS[:2]))

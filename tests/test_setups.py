@@ -35,7 +35,7 @@ class Setups(unittest.TestCase):
     def test_edges_of_what_may_be(self):
         for source in [(1, 1, 0, 0, 1, 1), (100, 100, 0, 1000, 1000, 1000), (1, 100, 1000, 1000, 1, 1000), (7, 9, 0, 20, 3, 3)]:
             self.assertEqual(check_setup(((source,), (100, 100), ((0, 1000),)))[0], (source,))
-        for source in [(7, 9, 0, 21, 3, 3), (1, 1, 0, 1, 1, 1), (1, 100, 0, 1000, 1000, 1000)]:
+        for source in [(7, 9, 0, 21, 3, 3), (1, 1, 0, 1, 1, 1), (1, 100, 0, 1000, 1000, 1000), (100, 100, 0, 1001, 1000, 1000), (9, 9, -1, 0, 9, 9)]:
             self.assertEqual(caught(BadSetup, check_setup, ((source,), (1, 1), ((0, 1),))).at, 0)
         for many in (1, 8):
             self.assertEqual(len(check_setup(((SOURCE,) * many, (1, 100), ((many - 1, 1),) * 16))[2]), 16)

@@ -30,7 +30,7 @@ def _rounded_up(many, by):
 def _first_count(source, one, other):
     """The least number of frames from mark to mark that leaves the right rest and is not too few."""
     pause = source[5]
-    least = max(1, _rounded_up(other[1] - one[1], pause))
+    least = _rounded_up(other[1] - one[1], pause)
     return least + (other[0] - one[0] - least) % NUMBERS
 
 

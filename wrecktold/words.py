@@ -38,6 +38,7 @@ def need_octets(value):
     if not is_sequence(value):
         raise BadOctets(-1)
     for at, octet in enumerate(value):
-        if not is_below(octet, 256):
+        # Spelled out, not by `is_below`: there may be many, asked for again and again.
+        if not isinstance(octet, int) or isinstance(octet, bool) or octet < 0 or octet > 255:
             raise BadOctets(at)
     return tuple(value)
