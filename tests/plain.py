@@ -1,6 +1,7 @@
 """What the tests reckon by plain means of their own, and the values they try."""
 
 import random
+import time
 
 from wrecktold import errors
 
@@ -160,3 +161,92 @@ def flight(dice, setup, many=4):
         course.append((sent, time))
         last = time
     return tuple(rows), tuple(course)
+
+
+def soon(case, seconds, call, *args):
+    """What a call tells, not too late."""
+    start = time.perf_counter()
+    told = call(*args)
+    case.assertLess(time.perf_counter() - start, seconds)
+    return told
+
+
+def solved_modulo(points):
+    """The coefficients, the least first, of the polynomial modulo 257 through (at, cell) pairs, by elimination."""
+    many = len(points)
+    lines = [[pow(at, power, 257) for power in range(many)] + [cell] for at, cell in points]
+    for column in range(many):
+        at = next(row for row in range(column, many) if lines[row][column])
+        lines[column], lines[at] = lines[at], lines[column]
+        factor = pow(lines[column][column], -1, 257)
+        lines[column] = [part * factor % 257 for part in lines[column]]
+        for row in range(many):
+            if row != column:
+                times = lines[row][column]
+                lines[row] = [(one - times * other) % 257 for one, other in zip(lines[row], lines[column])]
+    return [line[-1] for line in lines]
+
+
+def cell_at(points, at):
+    """The cell at a place of the polynomial through (at, cell) pairs."""
+    return sum(part * pow(at, power, 257) for power, part in enumerate(solved_modulo(points))) % 257
+
+
+def own_pieces(count, need, cells, octets):
+    """By chip its piece of octets, by the test's own polynomial."""
+    filled = list(octets) + [256] * (need * cells - len(octets))
+    lots = [filled[at:at + need] for at in range(0, need * cells, need)]
+    return tuple(tuple(cell_at(list(enumerate(lot)), chip) for lot in lots) for chip in range(count))
+
+
+def some_octets(dice, most):
+    """Octets by chance, at most so many."""
+    return tuple(dice.randrange(256) for _ in range(dice.randint(0, most)))
+
+
+def some_shape(dice, chips=5, slots=7, cells=8):
+    """A shape by chance."""
+    many = dice.randint(2, chips)
+    slot = dice.randint(2, slots)
+    return many, dice.randint(1, many - 1), slot, dice.randint(1, slot - 1), dice.randint(1, cells)
+
+
+def own_needed(number, last, stretches):
+    kept = set(range(max(0, number - last), number))
+    for first, end in stretches:
+        kept |= set(range(first, min(end + 1, number)))
+    return tuple(sorted(kept))
+
+
+def own_full(slots, last, number, stretches):
+    """The first block for which slots lack, looked for one by one."""
+    for block in range(number, max([number, *(end for _, end in stretches)]) + last + 3):
+        if 1 + len(own_needed(block, last, stretches)) > slots:
+            return block
+    return None
+
+
+def own_place(row, number, last, stretches):
+    kept = own_needed(number, last, stretches)
+    for word in ("torn", None):
+        for slot, part in enumerate(row):
+            if part == word:
+                return slot
+    free = [(part, slot) for slot, part in enumerate(row) if part not in kept]
+    return min(free)[1] if free else None
+
+
+def own_number(number):
+    """How a number is told within a form: how many octets it needs, then these."""
+    octets = number.to_bytes((number.bit_length() + 7) // 8, "big")
+    return [len(octets), *octets]
+
+
+def own_asks(asks):
+    """The form of asks, by the test's own writing."""
+    out = [4, *own_number(len(asks))]
+    for ask in asks:
+        out += [4, 1, 3]
+        for number in ask:
+            out += [1, *own_number(number)]
+    return tuple(out)

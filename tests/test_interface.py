@@ -25,10 +25,30 @@ FUNCTIONS = {
         course_faults(setup,rows,course) course_holds(setup,rows,value)""",
     "tents": """check_tent(value) values_at(tent,tick) highest(tent) lowest(tent) path_holds(tent,value) path_at(tent,tick,value)
         above_at(tent,limit) can_be_above(tent,limit) many_above(tent,limit)""",
+    "packing": """row_octets(setup,row) row_length(setup,row) most_length(setup) row_at(setup,octets,at) packed(setup,row,many)
+        unpacked(setup,octets)""",
+    "codes": "coded(count,need,data) fits(count,need,row) told_data(count,need,row) mended(count,need,row)",
+    "pieces": """pieces_of(count,need,cells,octets) pieces_fit(count,need,cells,pieces) octets_of(count,need,cells,pieces)
+        mended_pieces(count,need,cells,pieces)""",
+    "slots": """slot_of(many,number) ring_row(many,count) torn_row(many,count) is_ring_row(value) most_looks(many) newest(row)
+        goes_on(row)""",
+    "keeps": """check_stretches(value) needed(number,last,stretches) need_at(number,last,stretches) in_all(stretches)
+        first_full(slots,last,number,stretches) place_in(row,number,last,stretches) keeps_of(slots,last,row,asks)""",
+    "blocks": """need_shape(value) data_room(shape,asks) block_octets(shape,asks,data) block_told(shape,octets)
+        slot_blocks(shape,pieces)""",
+    "recorder": "open_recorder(chips,shape)",
+    "salvage": """salvage(shape,memory) short_blocks(shape,memory) torn_places(shape,memory) lost_chips(shape,memory)
+        told_blocks(shape,memory) data_of(shape,memory,number) asks_of(shape,memory) holes(shape,memory)""",
+    "happenings": "need_happening(rows,value) variable(rows,happening) happenings(rows) time_of(course,happening)",
 }
 METHODS = {
     ("edits", "Bounds"): """__init__(many) grow() told_edges() answer() lay(edge) lift(number) ring_with(edges) can(edges)
         span(one,other) way(tail,head)""",
+    ("keeps", "Keeps"): """__init__(slots,last) stretches() first_there() stretch_of(ahead,behind) full_with(ahead,behind)
+        ask(ahead,behind) release(name) place() go_on() torn()""",
+    ("chips", "Chips"): """__init__(many,slots,steps) is_lost(chip) read(chip,slot) write(chip,slot,piece) lose(chip) give(steps)
+        memory() twin()""",
+    ("recorder", "Recorder"): "hear(data) room() ask(ahead,behind) release(name)",
 }
 
 

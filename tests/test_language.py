@@ -29,6 +29,7 @@ BARRED = set(
     "builtins compile copyright credits delattr dir eval exec exit gc globals help id importlib license locals methodcaller os quit "
     "vars _wall _WallAttr _cold _tuplegetter _outside _record _written_out _member_names".split()
 )
+BARRED_BEGINNINGS = ("_wall", "_pe_", "_dcw_", "_enum_", "_cm_", "_twin_re_", "_lay_", "_law_", "_stub_", "_sre", "_WallAttr")
 NODES = (
     ast.Global, ast.AsyncFunctionDef, ast.AsyncFor, ast.AsyncWith, ast.Await, ast.Yield, ast.YieldFrom, ast.Div, ast.MatMult, ast.AnnAssign,
     ast.TryStar, ast.Import,
@@ -134,16 +135,18 @@ class Language(unittest.TestCase):
             for name, node in bound_names(tree):
                 if name in own or (name != "_" and name in dir(builtins)) or name in BARRED:
                     self.where(path, node, f"L15, L17: {name}")
+                if name.startswith(BARRED_BEGINNINGS):
+                    self.where(path, node, f"L12: {name}")
                 if name != "_" and not re.fullmatch(r"_?[a-zA-Z][a-zA-Z0-9_]*", name):
                     self.where(path, node, f"L12: {name}")
             for node in ast.walk(tree):
                 if isinstance(node, (ast.FunctionDef, ast.ClassDef)):
                     inside = isinstance(node, ast.FunctionDef) and node not in tree.body
-                    if node.name in BARRED or (node.name in dir(builtins) and not inside):
+                    if node.name in BARRED or node.name.startswith(BARRED_BEGINNINGS) or (node.name in dir(builtins) and not inside):
                         self.where(path, node, f"L15, L17: {node.name}")
                     if node.decorator_list:
                         self.where(path, node, "L4: a decorator")
-                if isinstance(node, ast.Attribute) and node.attr in BARRED:
+                if isinstance(node, ast.Attribute) and (node.attr in BARRED or node.attr.startswith(BARRED_BEGINNINGS)):
                     self.where(path, node, f"L17: {node.attr}")
                 if isinstance(node, ast.Name) and isinstance(node.ctx, ast.Load):
                     if node.id == "_" or (node.id in dir(builtins) and node.id not in BUILTINS):

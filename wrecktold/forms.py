@@ -205,7 +205,7 @@ def _take_row(reader):
     return tuple(parts)
 
 
-def _reader_at(octets, at):
+def reader_at(octets, at):
     """A reader of any value that is octets, from any value that is a place on."""
     octets = need_octets(octets)
     if not is_number(at):
@@ -215,14 +215,14 @@ def _reader_at(octets, at):
 
 def read_value(octets, at):
     """The thing whose form begins at this place, and the place behind it."""
-    reader = _reader_at(octets, at)
+    reader = reader_at(octets, at)
     thing = _take_thing(reader, 0)
     return thing, reader.place
 
 
 def read_row(octets, at):
     """The row whose form begins at this place, and the place behind it."""
-    reader = _reader_at(octets, at)
+    reader = reader_at(octets, at)
     row = _take_row(reader)
     return row, reader.place
 
