@@ -40,7 +40,28 @@ FUNCTIONS = {
     "salvage": """salvage(shape,memory) short_blocks(shape,memory) torn_places(shape,memory) lost_chips(shape,memory)
         told_blocks(shape,memory) data_of(shape,memory,number) asks_of(shape,memory) holes(shape,memory)""",
     "happenings": "need_happening(rows,value) variable(rows,happening) happenings(rows) time_of(course,happening)",
+    "courses": """quarrel(setup,rows) need_true(setup,rows) course_of(values) course_with(setup,rows,edges) course(setup,rows)
+        stretch(setup,rows,one,other) course_at(setup,rows,one,other,time)""",
+    "limits": """gaps(setup,rows,channel) reach(setup,rows,channel) limit_words(setup,rows,channel,limit)
+        limit_word(setup,rows,channel,limit) story_holds(setup,rows,channel,at,value) story_with(setup,rows,channel,at,value)
+        above(setup,rows,channel,limit) surely_above(setup,rows,channel,limit)""",
+    "order": """order_word(told) order(setup,rows,one,other) orders(setup,rows) order_paper(setup,rows,one,other)
+        open_holds(setup,rows,one,other,value)""",
+    "questions": """marked(setup,rows,mark) follows(course,place,others,within) followed(setup,rows,place,mark,within)
+        each_followed(setup,rows,mark,other,within) count_in(course,others,one,other) counted(setup,rows,one,other,mark)
+        first_of(setup,rows,marks)""",
+    "causes": """explained_course(setup,rows,causes,place) bare_course(setup,rows,causes,place,most)
+        explained(setup,rows,causes,place,most) roots(setup,rows,causes,most) chain_course(setup,rows,causes,chain)
+        chain_word(setup,rows,causes,chain) sure_links(setup,rows,causes) surely_from(setup,rows,causes,place)""",
+    "joined": """frames_of(joint,wrecks) joint_system(joint,wrecks) joint_quarrel(joint,wrecks) joint_course(joint,wrecks)
+        joint_stretch(joint,wrecks,one,other) left_out(joint,wrecks,most)""",
+    "budget": """most_rows(setup,ticks) least_ticks(setup,many) fastest(setup,many) covered(setup,kept) kept_for(setup,ticks)
+        budget(setup,kept,ticks)""",
+    "meaning": """wreck_rows(setup,shape,memory) unread(setup,shape,memory) meaning(setup,shape,memory)
+        wreck_stretch(setup,shape,memory,one,other) wreck_order(setup,shape,memory,one,other)""",
 }
+# The only arguments that are passed by their names alone.
+NAMED = {"most", "steps"}
 METHODS = {
     ("edits", "Bounds"): """__init__(many) grow() told_edges() answer() lay(edge) lift(number) ring_with(edges) can(edges)
         span(one,other) way(tail,head)""",
@@ -49,6 +70,10 @@ METHODS = {
     ("chips", "Chips"): """__init__(many,slots,steps) is_lost(chip) read(chip,slot) write(chip,slot,piece) lose(chip) give(steps)
         memory() twin()""",
     ("recorder", "Recorder"): "hear(data) room() ask(ahead,behind) release(name)",
+    ("order", "Story"): "__init__(setup) take(row) order(one,other)",
+    ("world", "World"): """__init__(setup,shape) restart(cuts) hear(rstamp,frame,steps) ask(ahead,behind,steps) release(name,steps)
+        lose(chip) wreck() told()""",
+    ("desk", "Desk"): "__init__(setup,shape) say(line)",
 }
 
 
@@ -66,6 +91,9 @@ class Interface(unittest.TestCase):
                 call = getattr(module, word.split("(")[0])
                 self.assertEqual(call.__module__, module.__name__)
                 self.assertEqual(told(call, 0), word)
+                for name, part in inspect.signature(call).parameters.items():
+                    self.assertIs(part.default, part.empty)
+                    self.assertEqual(part.kind is part.KEYWORD_ONLY, name in NAMED)
 
     def test_methods_stand_in_their_class(self):
         for (file, name), words in METHODS.items():
@@ -79,6 +107,18 @@ class Interface(unittest.TestCase):
             tree = ast.parse((PACKAGE / f"{file}.py").read_text())
             defined = {node.name for node in tree.body if isinstance(node, ast.FunctionDef)}
             self.assertLessEqual({word.split("(")[0] for word in words.split()}, defined)
+
+    def test_what_need_not_be_passed(self):
+        for (file, name), words in METHODS.items():
+            kind = getattr(importlib.import_module(f"wrecktold.{file}"), name)
+            for word in words.split():
+                for part in inspect.signature(vars(kind)[word.split("(")[0]]).parameters.values():
+                    told = {"cuts": (), "steps": None}.get(part.name, part.empty)
+                    self.assertEqual(part.default, part.empty if word.startswith("give(") else told)
+
+    def test_all_files_are_there(self):
+        there = {path.stem for path in PACKAGE.glob("*.py")}
+        self.assertLessEqual({*FUNCTIONS, *[file for file, _ in METHODS], "errors"}, there)
 
 
 if __name__ == "__main__":

@@ -91,11 +91,16 @@ class Language(unittest.TestCase):
                 elif isinstance(node, (ast.FunctionDef, ast.ClassDef)):
                     names.append(node.name)
                 elif isinstance(node, ast.Assign) and len(node.targets) == 1 and isinstance(node.targets[0], ast.Name):
-                    ast.literal_eval(node.value)
+                    if not self.is_table(node.value, names):
+                        ast.literal_eval(node.value)
                     names.append(node.targets[0].id)
                 else:
                     self.where(path, node, "L3: not at module level")
             self.assertEqual(len(names), len(set(names)), f"{path.name}: L15: bound twice")
+
+    def is_table(self, value, names):
+        """Whether a value is a dict of functions that are defined ahead of it."""
+        return isinstance(value, ast.Dict) and all(isinstance(part, ast.Name) and part.id in names for part in value.values)
 
     def test_imports(self):
         defined = {}
@@ -219,7 +224,7 @@ class Language(unittest.TestCase):
             for node in ast.walk(tree):
                 if isinstance(node, ast.JoinedStr):
                     continue
-                if isinstance(node, ast.Constant) and isinstance(node.value, str) and node.value in BARRED - {"type"}:
+                if isinstance(node, ast.Constant) and isinstance(node.value, str) and node.value in BARRED - {"type", "open"}:
                     self.where(path, node, "L17: a barred word")
 
 

@@ -21,7 +21,7 @@ def _need_within(value, least, most):
         raise Refused(value)
 
 
-def _need_steps(value):
+def need_steps(value):
     """Refuses any value that is neither a number of steps nor `None`, for no end of them."""
     if value is not None and not is_number(value):
         raise Refused(value)
@@ -33,7 +33,7 @@ class Chips:
     def __init__(self, many, slots, *, steps=None):
         _need_within(many, 1, MOST_CHIPS)
         _need_within(slots, 1, MOST_SLOTS)
-        _need_steps(steps)
+        need_steps(steps)
         self.many = many
         self.slots = slots
         self.steps = steps
@@ -76,7 +76,7 @@ class Chips:
 
     def give(self, steps):
         """From now on so many steps are left, without end for `None`."""
-        _need_steps(steps)
+        need_steps(steps)
         self.steps = steps
 
     def memory(self):

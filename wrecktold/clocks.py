@@ -1,7 +1,7 @@
 """The unknown times of rows: the bounds between them, and the courses that keep these."""
 
 from wrecktold.errors import Refused
-from wrecktold.numbers import mark_of, numbers_fit
+from wrecktold.numbers import misfits
 from wrecktold.setups import checked, neighbours, readings_of, rows_of
 from wrecktold.words import has_parts, is_integer
 
@@ -52,12 +52,25 @@ def _rate_tie(rate, channel, one, other):
     return ("rate", i, j, channel), sent(i), sent(j), ticks, None
 
 
-def _ties(setup, rows, pairs_of):
-    """All ties of rows, and of the pairs that the function tells of each places or readings."""
-    ties = [_way_tie(setup, row, place) for place, row in enumerate(rows)]
-    for source in range(len(setup[0])):
-        ties.extend([_source_tie(setup, rows, i, j) for i, j in pairs_of(rows_of(rows, source))])
-    ties.extend([_recorder_tie(setup, rows, i, j) for i, j in pairs_of(tuple(range(len(rows))))])
+def way_ties(setup, rows):
+    """The ties of rows' ways."""
+    return [_way_tie(setup, row, place) for place, row in enumerate(rows)]
+
+
+def source_ties(setup, rows, pairs_of):
+    """The ties of sources' clocks, of the pairs that the function tells of each one's places."""
+    pairs = [pair for source in range(len(setup[0])) for pair in pairs_of(rows_of(rows, source))]
+    return [_source_tie(setup, rows, i, j) for i, j in pairs]
+
+
+def recorder_ties(setup, rows, pairs_of):
+    """The ties of the recorder's clock, of the pairs that the function tells of all places."""
+    return [_recorder_tie(setup, rows, i, j) for i, j in pairs_of(tuple(range(len(rows))))]
+
+
+def rate_ties(setup, rows, pairs_of):
+    """The ties of channels' rates, of the pairs that the function tells of each one's readings."""
+    ties = []
     for channel, (_, rate) in enumerate(setup[2]):
         if rate is not None:
             pairs = pairs_of(readings_of(rows, channel))
@@ -65,11 +78,22 @@ def _ties(setup, rows, pairs_of):
     return ties
 
 
+def _ties(setup, rows, pairs_of):
+    """All ties of rows, and of the pairs that the function tells of each places or readings."""
+    ties = way_ties(setup, rows) + source_ties(setup, rows, pairs_of)
+    return ties + recorder_ties(setup, rows, pairs_of) + rate_ties(setup, rows, pairs_of)
+
+
 def _bound(tie):
     """A tie as words and edges."""
     words, x, y, least, greatest = tie
     back = (y, x, -least)
     return words, ((back,) if greatest is None else ((x, y, greatest), back))
+
+
+def edges_of(ties):
+    """The edges of ties, tie by tie."""
+    return [edge for tie in ties for edge in _bound(tie)[1]]
 
 
 def bounds_of(setup, rows):
@@ -111,20 +135,10 @@ def _is_broken(times, tie):
     return ticks < least or (greatest is not None and ticks > greatest)
 
 
-def _number_faults(setup, rows):
-    """The words of any two rows of one source and boot whose numbers don't fit."""
-    faults = []
-    for source in range(len(setup[0])):
-        for i, j in _all_pairs(rows_of(rows, source)):
-            if rows[i][3] == rows[j][3] and not numbers_fit(setup[0][source], mark_of(rows[i]), mark_of(rows[j])):
-                faults.append(("numbers", i, j))
-    return faults
-
-
 def _faults(setup, rows, course):
     """As `course_faults`, of what is known to be a setup, rows, and a course of these."""
     times = [time for pair in course for time in pair]
-    faults = _number_faults(setup, rows)
+    faults = [("numbers", i, j) for i, j in misfits(setup, rows, _all_pairs)]
     for tie in _ties(setup, rows, _all_pairs):
         if _is_broken(times, tie):
             # Of a way the row stands twice, of a rate the channel is not told.

@@ -49,7 +49,9 @@ def settle(out):
     for turn in range(len(out)):
         tails = _lower(out, values, came, tails)
         if not tails:
-            return "values", tuple(values)
+            break
+    if not tails:
+        return "values", tuple(values)
     # A variable that falls in a turn was reached by one that fell in the turn
     # ahead or later; as many turns as variables lead back into a ring.
     return "ring", _ring_behind(came, tails[0])

@@ -8,14 +8,14 @@ SENT = "sent"
 HEARD = "heard"
 
 
-def _is_word(value):
+def is_word(value):
     """Whether any value is the first part of a happening."""
     return isinstance(value, str) and value in (SENT, HEARD)
 
 
 def need_happening(rows, value):
     """Any value that is a happening of the rows, as a tuple."""
-    if not has_parts(value, 2) or not _is_word(value[0]) or not is_below(value[1], len(rows)):
+    if not has_parts(value, 2) or not is_word(value[0]) or not is_below(value[1], len(rows)):
         raise NoHappening(value)
     return tuple(value)
 

@@ -131,12 +131,25 @@ def missing(setup, rows):
     return tuple([pair for source in range(len(setup[0])) for pair in _missing_of(setup, rows, source)])
 
 
+def _misfit(source, row, other):
+    """Whether two rows of a source are of one boot, and their numbers don't fit."""
+    return row[3] == other[3] and not numbers_fit(source, mark_of(row), mark_of(other))
+
+
+def misfits(setup, rows, pairs_of):
+    """By source, of the pairs that the function tells of its places, those whose numbers don't fit."""
+    pairs = []
+    for number, source in enumerate(setup[0]):
+        told = pairs_of(rows_of(rows, number))
+        pairs.extend([(i, j) for i, j in told if _misfit(source, rows[i], rows[j])])
+    return pairs
+
+
 def false_pair(setup, rows):
     """The first two neighbours of one boot whose numbers don't fit, `None` if all do."""
-    for one, other, few in missing(setup, rows):
-        if not few:
-            return one, other
-    return None
+    setup, rows = checked(setup, rows)
+    false = misfits(setup, rows, neighbours)
+    return false[0] if false else None
 
 
 def missing_sums(setup, rows, source):

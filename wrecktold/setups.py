@@ -42,7 +42,7 @@ def _are_sources(value):
     return all(is_source(part) for part in value)
 
 
-def _is_recorder(value):
+def is_recorder(value):
     """Whether any value is the clock of a recorder."""
     return has_parts(value, 2) and _is_range(value[0], value[1], 1, MOST_TICKS)
 
@@ -72,7 +72,7 @@ def check_setup(value):
         raise BadSetup(-1)
     if not _are_sources(value[0]):
         raise BadSetup(0)
-    if not _is_recorder(value[1]):
+    if not is_recorder(value[1]):
         raise BadSetup(1)
     if not _are_channels(value[2], len(value[0])):
         raise BadSetup(2)

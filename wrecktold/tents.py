@@ -102,6 +102,20 @@ def can_be_above(tent, limit):
     return tuple([tick for tick in range(tent[3] + 1) if _high(tent, tick) > limit])
 
 
+def _surely_behind(value, limit, rate):
+    """For how many ticks from a value on, itself counted, all paths are above the limit."""
+    return max(0, -(-(value - limit) // rate))
+
+
+def _not_yet_behind(value, limit, rate):
+    """For how many ticks from a value on, itself counted, no path is above the limit."""
+    return max(0, (limit - value) // rate + 1)
+
+
 def many_above(tent, limit):
     """(least, most): at how many ticks a path is above the limit."""
-    return len(above_at(tent, limit)), len(can_be_above(tent, limit))
+    first, last, rate, ticks = _checked_limit(tent, limit)
+    # Reckoned from both ends, not counted: a tent can be far longer than what is asked of it.
+    surely = _surely_behind(first, limit, rate) + _surely_behind(last, limit, rate)
+    not_yet = _not_yet_behind(first, limit, rate) + _not_yet_behind(last, limit, rate)
+    return min(ticks + 1, surely), max(0, ticks + 1 - not_yet)
