@@ -2,7 +2,7 @@
 
 from wrecktold.errors import Refused
 from wrecktold.setups import MOST_ROWS, check_setup
-from wrecktold.words import is_number, is_within
+from wrecktold.words import need_number, need_within
 
 
 def _budgeted(setup):
@@ -11,18 +11,6 @@ def _budgeted(setup):
     if told[1][0] != 1:
         raise Refused(setup)
     return told
-
-
-def _need_within(value, least, most):
-    """Refuses any value that is no integer from the least to the most."""
-    if not is_within(value, least, most):
-        raise Refused(value)
-
-
-def _need_ticks(value):
-    """Refuses any value that is no number of ticks."""
-    if not is_number(value):
-        raise Refused(value)
 
 
 def _rows_within(source, ticks):
@@ -40,7 +28,7 @@ def _most_rows(setup, ticks):
 def most_rows(setup, ticks):
     """The greatest number of rows that can be heard in so many ticks."""
     setup = _budgeted(setup)
-    _need_ticks(ticks)
+    need_number(ticks)
     return _most_rows(setup, ticks)
 
 
@@ -62,7 +50,7 @@ def _least_ticks(setup, many):
 def least_ticks(setup, many):
     """The least number of ticks in which so many rows can be heard."""
     setup = _budgeted(setup)
-    _need_within(many, 1, MOST_ROWS)
+    need_within(many, 1, MOST_ROWS)
     return _least_ticks(setup, many)
 
 
@@ -96,27 +84,27 @@ def _fastest(setup, many):
 def fastest(setup, many):
     """Some (rows, course): so many rows that are heard in the least ticks, the first one at 0."""
     setup = _budgeted(setup)
-    _need_within(many, 1, MOST_ROWS)
+    need_within(many, 1, MOST_ROWS)
     return _fastest(setup, many)
 
 
 def covered(setup, kept):
     """The greatest number of ticks that so many last rows cover, -1 if not even 0."""
     setup = _budgeted(setup)
-    _need_within(kept, 1, MOST_ROWS - 1)
+    need_within(kept, 1, MOST_ROWS - 1)
     return _least_ticks(setup, kept + 1) - 1
 
 
 def kept_for(setup, ticks):
     """The least number of last rows that cover so many ticks."""
     setup = _budgeted(setup)
-    _need_ticks(ticks)
+    need_number(ticks)
     return _most_rows(setup, ticks)
 
 
 def budget(setup, kept, ticks):
     """`None` if so many last rows cover so many ticks; else some (rows, course) in which they do not."""
     setup = _budgeted(setup)
-    _need_within(kept, 1, MOST_ROWS - 1)
-    _need_ticks(ticks)
+    need_within(kept, 1, MOST_ROWS - 1)
+    need_number(ticks)
     return None if _most_rows(setup, ticks) <= kept else _fastest(setup, kept + 1)

@@ -3,7 +3,7 @@
 from wrecktold.codes import MOST_CHIPS, are_cells
 from wrecktold.errors import Cut, Refused
 from wrecktold.slots import MOST_SLOTS, TORN
-from wrecktold.words import has_parts, is_below, is_number, is_sequence, is_within
+from wrecktold.words import has_parts, is_below, is_sequence, need_number, need_within
 
 BLOCK_BOUND = 1000000000
 
@@ -15,24 +15,18 @@ def is_piece(value):
     return are_cells(value[1], len(value[1]))
 
 
-def _need_within(value, least, most):
-    """Refuses any value that is no integer from the least to the most."""
-    if not is_within(value, least, most):
-        raise Refused(value)
-
-
 def need_steps(value):
     """Refuses any value that is neither a number of steps nor `None`, for no end of them."""
-    if value is not None and not is_number(value):
-        raise Refused(value)
+    if value is not None:
+        need_number(value)
 
 
 class Chips:
     """An outside that stays when the power is cut, but for chips that are lost."""
 
     def __init__(self, many, slots, *, steps=None):
-        _need_within(many, 1, MOST_CHIPS)
-        _need_within(slots, 1, MOST_SLOTS)
+        need_within(many, 1, MOST_CHIPS)
+        need_within(slots, 1, MOST_SLOTS)
         need_steps(steps)
         self.many = many
         self.slots = slots
@@ -42,12 +36,12 @@ class Chips:
 
     def _need_place(self, chip, slot):
         """Refuses any value that is no chip, then any that is no slot."""
-        _need_within(chip, 0, self.many - 1)
-        _need_within(slot, 0, self.slots - 1)
+        need_within(chip, 0, self.many - 1)
+        need_within(slot, 0, self.slots - 1)
 
     def is_lost(self, chip):
         """Whether a chip is lost."""
-        _need_within(chip, 0, self.many - 1)
+        need_within(chip, 0, self.many - 1)
         return self._lost[chip]
 
     def read(self, chip, slot):
@@ -71,7 +65,7 @@ class Chips:
 
     def lose(self, chip):
         """Loses a chip for ever."""
-        _need_within(chip, 0, self.many - 1)
+        need_within(chip, 0, self.many - 1)
         self._lost[chip] = True
 
     def give(self, steps):

@@ -1,7 +1,7 @@
 """The unknown times of rows: the bounds between them, and the courses that keep these."""
 
 from wrecktold.errors import Refused
-from wrecktold.numbers import misfits
+from wrecktold.numbers import misfits, rounded_up
 from wrecktold.setups import checked, neighbours, readings_of, rows_of
 from wrecktold.words import has_parts, is_integer
 
@@ -48,8 +48,7 @@ def _rate_tie(rate, channel, one, other):
     """How far one reading of a channel is sent behind another one, both (place, value)."""
     i, was = one
     j, now = other
-    ticks = (abs(now - was) + rate - 1) // rate
-    return ("rate", i, j, channel), sent(i), sent(j), ticks, None
+    return ("rate", i, j, channel), sent(i), sent(j), rounded_up(abs(now - was), rate), None
 
 
 def way_ties(setup, rows):

@@ -7,7 +7,7 @@ cell of each of some polynomials: pieces are lines, a lone cell is a line of one
 from itertools import combinations
 
 from wrecktold.errors import Refused
-from wrecktold.words import has_parts, is_below, is_within
+from wrecktold.words import has_parts, is_below, need_within
 
 CELL_BOUND = 257
 LEAST_CHIPS = 2
@@ -27,10 +27,8 @@ def are_cells(value, many):
 
 def need_code(count, need):
     """Refuses any value that is no number of chips, then any that is no number of those needed."""
-    if not is_within(count, LEAST_CHIPS, MOST_CHIPS):
-        raise Refused(count)
-    if not is_within(need, 1, count):
-        raise Refused(need)
+    need_within(count, LEAST_CHIPS, MOST_CHIPS)
+    need_within(need, 1, count)
 
 
 def _shares(chips, at):

@@ -2,7 +2,7 @@
 
 from wrecktold.errors import Refused
 from wrecktold.graphs import distances, is_kept, nearest_way, out_edges, settle, stretch_between
-from wrecktold.words import has_parts, is_below, is_integer, is_sequence, is_within
+from wrecktold.words import has_parts, is_below, is_integer, is_sequence, is_within, need_integer
 
 MOST_VARIABLES = 1000
 
@@ -134,8 +134,7 @@ def met(system, one, other, value):
     """Some answer in which the other variable is just so much above the one, `None` if there is none."""
     out, _ = _answered(system)
     need_variables(len(out), (one, other))
-    if not is_integer(value):
-        raise Refused(value)
+    need_integer(value)
     word, values = solved_with(system, ((one, other, value), (other, one, -value)))
     return values if word == "values" else None
 

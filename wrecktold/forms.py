@@ -1,7 +1,7 @@
 """Things as octets: how they are written, and how they are read again."""
 
 from wrecktold.errors import BadRow, Broken, Refused
-from wrecktold.words import is_integer, is_number, is_sequence, need_octets
+from wrecktold.words import is_integer, is_sequence, need_number, need_octets
 
 SIGNS = "abcdefghijklmnopqrstuvwxyz0123456789-_ "
 LONGEST = 4095
@@ -208,8 +208,7 @@ def _take_row(reader):
 def reader_at(octets, at):
     """A reader of any value that is octets, from any value that is a place on."""
     octets = need_octets(octets)
-    if not is_number(at):
-        raise Refused(at)
+    need_number(at)
     return Reader(octets, at, False)
 
 

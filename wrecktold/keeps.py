@@ -1,8 +1,8 @@
 """What is to be kept of a ring of slots, and a ring that is led along so that all of it stays."""
 
 from wrecktold.errors import Refused
-from wrecktold.slots import TORN, has_row_form, need_number, need_slots, next_number
-from wrecktold.words import has_parts, is_integer, is_number, is_sequence, is_within
+from wrecktold.slots import TORN, has_row_form, need_slots, next_number
+from wrecktold.words import has_parts, is_integer, is_number, is_sequence, need_number, need_within
 
 # How many blocks an ask can reach to either side.
 FARTHEST = 1000
@@ -94,8 +94,7 @@ def in_all(stretches):
 def _need_ring(slots, last):
     """Refuses any value that is no number of slots, then any that is no number of last blocks."""
     need_slots(slots)
-    if not is_within(last, 1, slots - 1):
-        raise Refused(last)
+    need_within(last, 1, slots - 1)
 
 
 def _first_full(slots, last, number, stretches):
@@ -154,8 +153,7 @@ def place_in(row, number, last, stretches):
 def _need_reach(ahead, behind):
     """Refuses the first of the two that is no number up to the farthest."""
     for value in (ahead, behind):
-        if not is_within(value, 0, FARTHEST):
-            raise Refused(value)
+        need_within(value, 0, FARTHEST)
 
 
 class Keeps:

@@ -3,9 +3,10 @@
 from wrecktold.clocks import course_holds, sent
 from wrecktold.courses import courses_of
 from wrecktold.errors import Refused
+from wrecktold.numbers import rounded_up
 from wrecktold.setups import need_channel, neighbours, readings_of
 from wrecktold.tents import highest, lowest, many_above, path_at, path_holds
-from wrecktold.words import has_parts, is_below, is_integer
+from wrecktold.words import has_parts, is_below, need_integer
 
 PASSED = "passed"
 KEPT = "kept"
@@ -19,12 +20,6 @@ def _rated(setup, rows, channel):
     if told.setup[2][channel][1] is None:
         raise Refused(channel)
     return told
-
-
-def _need_integer(value):
-    """Refuses any value that is no integer."""
-    if not is_integer(value):
-        raise Refused(value)
 
 
 def _rate(told, channel):
@@ -77,7 +72,7 @@ def _word(rate, gap, limit):
 def limit_words(setup, rows, channel, limit):
     """By neighbours (place, place, how the limit stands between them)."""
     told = _rated(setup, rows, channel)
-    _need_integer(limit)
+    need_integer(limit)
     rate = _rate(told, channel)
     return tuple([gap[:2] + (_word(rate, gap, limit),) for gap in _gaps(told, channel)])
 
@@ -85,7 +80,7 @@ def limit_words(setup, rows, channel, limit):
 def limit_word(setup, rows, channel, limit):
     """How a limit stands over all rows."""
     told = _rated(setup, rows, channel)
-    _need_integer(limit)
+    need_integer(limit)
     # A reading without neighbours can be above it, too.
     if any(value > limit for _, value in readings_of(told.rows, channel)):
         return PASSED
@@ -111,20 +106,15 @@ def story_holds(setup, rows, channel, at, value):
     return path_holds((was, now, _rate(told, channel), ticks), value[1])
 
 
-def _rounded_up(many, by):
-    """The quotient, rounded up."""
-    return -(-many // by)
-
-
 def story_with(setup, rows, channel, at, value):
     """Some story of neighbours with this value at some tick; `None` if there is none."""
     told = _rated(setup, rows, channel)
     i, j, was, now, least, _ = _gap_at(told, channel, at)
-    _need_integer(value)
+    need_integer(value)
     rate = _rate(told, channel)
     # As fast as can be there, and on to the other reading: if the time is longer, the rest is behind.
-    tick = _rounded_up(abs(value - was), rate)
-    ticks = max(least, tick + _rounded_up(abs(now - value), rate))
+    tick = rounded_up(abs(value - was), rate)
+    ticks = max(least, tick + rounded_up(abs(now - value), rate))
     met = told.some_at(sent(i), sent(j), ticks)
     return None if met is None else (met, path_at((was, now, rate, ticks), tick, value))
 
@@ -142,7 +132,7 @@ def _above(rate, gap, limit):
 def above(setup, rows, channel, limit):
     """By neighbours (place, place, least, most): at how many ticks stories are above the limit."""
     told = _rated(setup, rows, channel)
-    _need_integer(limit)
+    need_integer(limit)
     rate = _rate(told, channel)
     return tuple([gap[:2] + _above(rate, gap, limit) for gap in _gaps(told, channel)])
 
@@ -162,6 +152,6 @@ def _sure_runs(rate, found, limit):
 def surely_above(setup, rows, channel, limit):
     """(first place, last place, least ticks) of the longest rows of neighbours that stay above the limit."""
     told = _rated(setup, rows, channel)
-    _need_integer(limit)
+    need_integer(limit)
     runs = _sure_runs(_rate(told, channel), _gaps(told, channel), limit)
     return tuple([(first, last, _ticks(told, first, last)[0]) for first, last in runs])

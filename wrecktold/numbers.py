@@ -22,7 +22,7 @@ def _need_mark(value):
         raise Refused(value)
 
 
-def _rounded_up(many, by):
+def rounded_up(many, by):
     """The quotient, rounded up."""
     return -(-many // by)
 
@@ -30,7 +30,7 @@ def _rounded_up(many, by):
 def _first_count(source, one, other):
     """The least number of frames from mark to mark that leaves the right rest and is not too few."""
     pause = source[5]
-    least = _rounded_up(other[1] - one[1], pause)
+    least = rounded_up(other[1] - one[1], pause)
     return least + (other[0] - one[0] - least) % NUMBERS
 
 
@@ -80,7 +80,7 @@ def doubt_span(source):
         return None
     # Two counts are 256 apart or more: d frames at their slowest must last as
     # long as d and 256 at their fastest.
-    few = _rounded_up(NUMBERS * gap, pause - gap)
+    few = rounded_up(NUMBERS * gap, pause - gap)
     stamps = gap * (few + NUMBERS)
     return stamps if stamps <= LAST_STAMP else None
 

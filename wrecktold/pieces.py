@@ -2,7 +2,7 @@
 
 from wrecktold.codes import are_cells, coded_lines, lines_fit, mended_lines, need_code, told_lines
 from wrecktold.errors import Refused
-from wrecktold.words import has_parts, is_within, need_octets
+from wrecktold.words import has_parts, need_octets, need_within
 
 MOST_CELLS = 1000
 
@@ -13,8 +13,7 @@ FILL = 256
 def _need_form(count, need, cells):
     """Refuses the first value of these three that is not as it must be."""
     need_code(count, need)
-    if not is_within(cells, 1, MOST_CELLS):
-        raise Refused(cells)
+    need_within(cells, 1, MOST_CELLS)
 
 
 def _lines(count, need, cells, pieces):

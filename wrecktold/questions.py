@@ -5,7 +5,7 @@ from wrecktold.courses import courses_of
 from wrecktold.errors import Refused
 from wrecktold.happenings import time_of, variable
 from wrecktold.setups import need_channel, readings_of
-from wrecktold.words import has_parts, is_below, is_integer, is_number, is_sequence
+from wrecktold.words import has_parts, is_below, is_integer, is_sequence, need_number
 
 ALWAYS = "always"
 NEVER = "never"
@@ -30,12 +30,6 @@ def _need_mark(told, mark):
         raise Refused(mark)
     need_channel(told.setup, mark[0])
     return mark_places(told.rows, mark)
-
-
-def _need_within(value):
-    """Refuses any value that is no number of ticks."""
-    if not is_number(value):
-        raise Refused(value)
 
 
 def marked(setup, rows, mark):
@@ -89,7 +83,7 @@ def followed(setup, rows, place, mark, within):
     if not is_below(place, len(told.rows)):
         raise Refused(place)
     others = _need_mark(told, mark)
-    _need_within(within)
+    need_number(within)
     so = _followed_course(told, place, others, within)
     if so is None:
         return (NEVER,)
@@ -102,7 +96,7 @@ def each_followed(setup, rows, mark, other, within):
     told = courses_of(setup, rows)
     places = _need_mark(told, mark)
     others = _need_mark(told, other)
-    _need_within(within)
+    need_number(within)
     for place in places:
         bare = _bare_course(told, place, others, within)
         if bare is not None:

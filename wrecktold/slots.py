@@ -1,7 +1,6 @@
 """A ring of slots: what lies in them, and where it goes on."""
 
-from wrecktold.errors import Refused
-from wrecktold.words import is_integer, is_number, is_sequence, is_within
+from wrecktold.words import is_integer, is_number, is_sequence, need_number, need_within
 
 LEAST_SLOTS = 2
 MOST_SLOTS = 64
@@ -11,14 +10,7 @@ TORN = "torn"
 
 def need_slots(value):
     """Refuses any value that is no number of slots of a ring."""
-    if not is_within(value, LEAST_SLOTS, MOST_SLOTS):
-        raise Refused(value)
-
-
-def need_number(value):
-    """Refuses any value that is no number."""
-    if not is_number(value):
-        raise Refused(value)
+    need_within(value, LEAST_SLOTS, MOST_SLOTS)
 
 
 def slot_of(many, number):

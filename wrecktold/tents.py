@@ -1,7 +1,7 @@
 """What a channel can have been between two values: the paths of a tent."""
 
 from wrecktold.errors import Refused
-from wrecktold.words import has_parts, is_integer, is_number, is_within
+from wrecktold.words import has_parts, is_integer, is_number, need_integer, need_within
 
 
 def check_tent(value):
@@ -40,8 +40,7 @@ def path_holds(tent, value):
 
 def _need_tick(tent, tick):
     """Refuses any value that is no tick of the tent."""
-    if not is_within(tick, 0, tent[3]):
-        raise Refused(tick)
+    need_within(tick, 0, tent[3])
 
 
 def values_at(tent, tick):
@@ -76,8 +75,7 @@ def path_at(tent, tick, value):
     """Some path with this value at the tick."""
     tent = check_tent(tent)
     _need_tick(tent, tick)
-    if not is_within(value, _low(tent, tick), _high(tent, tick)):
-        raise Refused(value)
+    need_within(value, _low(tent, tick), _high(tent, tick))
     first, last, _, ticks = tent
     return _leg(first, value, tick) + _leg(value, last, ticks - tick) + (last,)
 
@@ -85,8 +83,7 @@ def path_at(tent, tick, value):
 def _checked_limit(tent, limit):
     """A tent as a tuple; any value that is no integer is refused as its limit."""
     tent = check_tent(tent)
-    if not is_integer(limit):
-        raise Refused(limit)
+    need_integer(limit)
     return tent
 
 

@@ -1,6 +1,6 @@
 """The plain kinds of values that all other modules ask for."""
 
-from wrecktold.errors import BadOctets
+from wrecktold.errors import BadOctets, Refused
 
 
 def is_integer(value):
@@ -31,6 +31,24 @@ def is_sequence(value):
 def has_parts(value, many):
     """Whether any value is a sequence of just so many parts."""
     return is_sequence(value) and len(value) == many
+
+
+def need_integer(value):
+    """Refuses any value that is no integer."""
+    if not is_integer(value):
+        raise Refused(value)
+
+
+def need_number(value):
+    """Refuses any value that is no number."""
+    if not is_number(value):
+        raise Refused(value)
+
+
+def need_within(value, least, most):
+    """Refuses any value that is no integer from the least to the most."""
+    if not is_within(value, least, most):
+        raise Refused(value)
 
 
 def need_octets(value):
