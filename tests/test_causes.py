@@ -334,8 +334,7 @@ class Errors(unittest.TestCase):
         bad_ones += [[good, part] for part in ODD] + [[with_part(good, at, part)] for at in (2, 3) for part in (None, True, -1, "1", (1,))]
         bad_ones += [[good[:3]], [good + (1,)], [with_part(good, 2, 10)], good]
         bad_ones += [[with_part(good, at, bad)] for at in (0, 1) for bad in NO_CHANNELS]
-        no_marks = [bad for bad in NO_MARKS if not (isinstance(bad, (list, tuple)) and [part.__class__ for part in bad] == [int] * 3)]
-        bad_ones += [[with_part(good, at, bad)] for at in (0, 1) for bad in no_marks]
+        bad_ones += [[with_part(good, at, bad)] for at in (0, 1) for bad in NO_MARKS]
         for bad in bad_ones:
             for call, more in CALLS:
                 self.assertIs(caught(Refused, call, SETUP, ROWS, bad, *more).at, bad)

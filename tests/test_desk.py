@@ -213,6 +213,8 @@ class Lines(unittest.TestCase):
             for at, word in enumerate(words[1:], 1):
                 if word.isdigit():
                     bad_words = ["-1", "-0", "+1", "01", "00", "", "x", "1.0", "1e3", "1_0", "0x1", "\u0661", "\u00b2", "1234567890", "0" * 9, "None", "0:0"]
+                    # A limit, unlike all others, can be below 0.
+                    bad_words = bad_words[1:] if (words[0], at) == ("limit", 2) else bad_words
                     told += [" ".join([*words[:at], bad, *words[at + 1:]]) for bad in bad_words]
                 if ":" in word:
                     bad_words = ["0:", ":0", "0:-0", "0:+1", "-1:0", "0:01", "00:1", "0:1:1", "0::1", "0;1", "0: 1", "0:1234567890", "0:-1234567890", "0:x", "0:--1"]
@@ -231,8 +233,6 @@ class Lines(unittest.TestCase):
         was = Book.state(desk)
         many = 0
         for bad in self.bad_lines():
-            if isinstance(bad, str) and bad.startswith("limit") and bad.endswith(" -1") and len(bad.split(" ")) == 3:
-                continue
             self.assertEqual(caught(BadText, desk.say, bad).at, 0, bad)
             many += 1
         self.assertGreater(many, 700)

@@ -282,7 +282,7 @@ class Errors(unittest.TestCase):
             self.assertEqual(caught(BadSetup, call, with_part(SETUP, 1, None), None, None, *more).at, 1)
             self.assertEqual(caught(BadRows, call, SETUP, None, None, *more).at, -1)
             self.assertEqual(caught(Quarrel, call, SETUP, quarrels, None, *more).paper, ("numbers", 2, 3))
-            for bad in [bad for bad in ODD] + [2, -1, 16, "0", (0,)]:
+            for bad in [*ODD, 2, -1, 16, "0", (0,)]:
                 self.assertIs(caught(NoChannel, call, SETUP, ROWS, bad, *more).value, bad)
             self.assertEqual(caught(Refused, call, SETUP, ROWS, 1, *more).at, 1)
         for call in WITH_LIMIT:

@@ -142,7 +142,7 @@ class Errors(unittest.TestCase):
             self.assertEqual(caught(BadSetup, call, with_part(SETUP, 1, None), None, None, *more).at, 1)
             for bad in NO_SHAPE:
                 self.assertIs(caught(Refused, call, SETUP, bad, None, *more).at, bad)
-            for bad in [bad for bad in ODD] + [self.MEMORY[:2], with_part(self.MEMORY, 0, self.MEMORY[0][:5]), with_part(self.MEMORY, 2, 7)]:
+            for bad in [*ODD, self.MEMORY[:2], with_part(self.MEMORY, 0, self.MEMORY[0][:5]), with_part(self.MEMORY, 2, 7)]:
                 self.assertIs(caught(Refused, call, SETUP, SHAPE, bad, *more).at, bad)
 
     def test_happenings(self):
