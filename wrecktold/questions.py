@@ -121,8 +121,8 @@ def _lot_edges(x, y, places, start, end):
 
 def _course_with_many(told, x, y, places, many):
     """Some course in which just so many places are sent from one time to another, `None` if there is none."""
-    # If the other time is ahead of the one, none is between: then those ahead of
-    # the one, and those behind it, are a lot of none.
+    # Where the other time is ahead of the one, none is between: those ahead of the
+    # one are parted there from all others, which are behind the other one.
     for start in range(len(places) - many + 1):
         met = told.some_with(_lot_edges(x, y, places, start, start + many))
         if met is not None:
